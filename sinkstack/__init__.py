@@ -1,0 +1,1 @@
+"""Sinkstack: every work is one triple, and the cheapest one has one told price."""
