@@ -1,6 +1,6 @@
 """What can be handed in: each check refuses what can't be and tells nothing else."""
 
-from sinkstack.errors import BadCount, BadPlan, BadStack, BadSteps, BadTriple, BadWork
+from sinkstack.errors import BadCount, BadPair, BadPlan, BadSign, BadStack, BadSteps, BadTriple, BadWork
 
 SIGNS = "abcd"
 POP_STEP = "-"
@@ -51,8 +51,36 @@ def are_prices(prices, many):
 
 def check_stack(plan, stack):
     """Refuse what is no stack of the plan."""
-    if not is_text_of(stack, signs_of(plan)) or len(stack) > plan[0]:
+    if not is_stack(plan, stack):
         raise BadStack("no stack of this plan")
+
+
+def is_stack(plan, stack):
+    """Whether stack is one of the plan."""
+    return is_text_of(stack, signs_of(plan)) and len(stack) <= plan[0]
+
+
+def check_pairs(plan, pairs):
+    """Refuse what is no list of pairs of stacks of the plan."""
+    if not isinstance(pairs, list):
+        raise BadPair(0)
+    for number, pair in enumerate(pairs):
+        if not is_pair(plan, pair):
+            raise BadPair(number)
+
+
+def is_pair(plan, pair):
+    """Whether pair is one of two stacks of the plan."""
+    if not isinstance(pair, tuple) or len(pair) != 2:
+        return False
+    return is_stack(plan, pair[0]) and is_stack(plan, pair[1])
+
+
+def check_sign(plan, sign):
+    """Refuse what is no sign of the plan."""
+    # In a text, longer texts and the empty one would be found, too.
+    if sign not in list(signs_of(plan)):
+        raise BadSign("no sign of this plan")
 
 
 def check_steps(plan, steps):

@@ -81,6 +81,17 @@ def triples(plan):
             if gone + kept <= room and len(laid) + kept <= room and (kept > 0 or gone == 0)]
 
 
+def rising(triple):
+    """What triples rise by."""
+    gone, kept, laid = triple
+    return (len(laid), laid, gone, kept)
+
+
+def laid_out(plan):
+    """All triples of a plan, as triples rise."""
+    return sorted(triples(plan), key=rising)
+
+
 def table(plan, steps):
     """What steps make of all stacks, in turn."""
     return tuple(walked(plan, stack, steps) for stack in stacks(plan))

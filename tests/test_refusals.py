@@ -3,9 +3,19 @@
 import copy
 import unittest
 
-from sinkstack import prices, triples
-from sinkstack.errors import BadWork, SinkError
+from sinkstack import befores, counting, notes, prices, triples
+from sinkstack.errors import BadPair, BadWork, SinkError
+from sinkstack.machine import Machine
 from tests.wrong import BAD, GOOD, PLAN, many_works, rows_within, times_within
+
+
+def machine_done(plan, stack, work):
+    return Machine(plan, stack).do(work)
+
+
+def machine_pushed(plan, stack, sign):
+    return Machine(plan, stack).push(sign)
+
 
 FUNCTIONS = [
     (triples.told, ("plan", "work")),
@@ -21,6 +31,16 @@ FUNCTIONS = [
     (prices.fewest, ("plan", "triple")),
     (prices.judged, ("plan", "triple", "steps")),
     (prices.fillers, ("plan", "triple")),
+    (befores.befores, ("plan", "triple", "stack")),
+    (befores.fitting, ("plan", "pairs")),
+    (befores.count, ("plan",)),
+    (counting.triple_at, ("plan", "number")),
+    (counting.number_of, ("plan", "triple")),
+    (Machine, ("plan", "stack")),
+    (machine_done, ("plan", "stack", "work")),
+    (machine_pushed, ("plan", "stack", "sign")),
+    (notes.written, ("plan", "work")),
+    (notes.read, ("plan", "text")),
 ]
 
 
@@ -61,6 +81,16 @@ class Refusals(unittest.TestCase):
         for function in (triples.alike, triples.parting):
             self.refused(function, [PLAN, ("row", (("pop",), 1)), ("row", (1,))], BadWork, "number", 2)
             self.refused(function, [PLAN, ("row", (1,)), ("row", (("pop",), 1))], BadWork, "number", 1)
+
+    def test_what_is_good_is_taken(self):
+        for function, kinds in FUNCTIONS:
+            function(*[GOOD[kind] for kind in kinds])
+
+    def test_of_several_pairs_the_first_is_refused_first(self):
+        self.refused(befores.fitting, [PLAN, [("a", "a"), ("a", "c"), ("c", "a"), None]], BadPair, "number", 1)
+        self.refused(befores.fitting, [PLAN, [("a", "a")] * 500 + [["a", "a"]]], BadPair, "number", 500)
+        # That no triple fits the first pairs does not take a later one.
+        self.refused(befores.fitting, [PLAN, [("a", "a"), ("a", "b"), ("a", "c")]], BadPair, "number", 2)
 
     def test_edges_are_taken(self):
         for room in (1, 9):

@@ -1,6 +1,7 @@
 """Values that can't be handed in, and for each kind what is refused how."""
 
-from sinkstack.errors import BadCount, BadPlan, BadStack, BadSteps, BadTriple, BadWork
+from sinkstack.errors import (BadCount, BadPair, BadPlan, BadSign, BadStack, BadSteps, BadText, BadTriple,
+                              BadWork)
 
 PLAN = (3, 2, (5, 4), 6)
 OTHERS = [None, True, False, 0, 1, -1, 10 ** 30, [], (), ["a"], [1, 2]]
@@ -98,6 +99,34 @@ BAD_STEPS = OTHERS + ["c", "d", "A", "+", " ", "a b", "a-c", "--d--", "[a]2", "a
 
 BAD_COUNTS = [None, True, False, -1, -10 ** 30, 10 ** 18 + 1, 10 ** 30, "", "1", "a", (), (1,), [], [1]]
 
+# The plan has 43 triples.
+BAD_NUMBERS = [None, True, False, -1, -43, 43, 44, 10 ** 18, 10 ** 30, -10 ** 30, "", "1", "a", (), (1,), [], [1]]
+
+BAD_SIGNS = OTHERS + ["", "c", "d", "e", "A", "-", " ", "ab", "aa", "ba", ("a",), ["b"], "\u00e4", "a\n"]
+
+# No list is refused with 0, as is a list whose first pair can't be.
+BAD_PAIRS = [(pairs, 0) for pairs in [None, True, False, 0, 1, -1, (), "", "ab", (("a", "a"),), ("a", "a"), ((), ())]]
+BAD_PAIRS += [(good + [pair] + rest, len(good))
+              for good in ([], [("", "")], [("a", "b"), ("aba", ""), ("a", "b")])
+              for pair in [None, True, False, 0, 7, "", "a", "ab", (), [], ["a", "b"], ("a",), ("a", "b", "a"),
+                           ("a", None), (None, "a"), ("a", True), (1, "a"), ("a", ("b",)), (["a"], "b"), ("c", "a"),
+                           ("a", "c"), ("aaaa", "a"), ("a", "abab"), ("-", "a"), ("a", "A"), (("a", "b"),),
+                           ("a" * 50, ""), ("", "a\n")]
+              for rest in ([], [("a", "b")], [None, ("c", "a"), ["a", "b"]])]
+
+# What a text writes is refused ahead of what its work can't be.
+BAD_TEXTS = [(text, BadText, "place", place) for text, place in [
+    ("c", 0), ("-d", 1), ("A", 0), (" ", 0), ("a b", 1), ("a\n", 1), ("]", 0), ("a]", 1), ("]1", 0), ("1", 0),
+    ("a1", 1), ("[", 1), ("[a", 2), ("[a]", 3), ("[a]-", 3), ("[a]01", 4), ("[a]00", 4), ("[a]-1", 3),
+    ("[a]1000000000000000001", 21), ("[a]9999999999999999999", 21), ("[a]10000000000000000000", 22), ("[[a]1", 5),
+    ("[a]1]", 4), ("[2]2", 1), ("%", 0), ("a" * 100 + "[", 101), ("[" * 30, 30), ("[[[[[]1]1]1]1]", 14),
+    ("a" * 70 + "c", 70),
+]]
+BAD_TEXTS += [(text, BadWork, "number", number) for text, number in [
+    ("a" * 60, 60), ("-" * 200, 60), ("[[[[]1]1]1]1", 8), ("a[[[[a]1]1]1]0", 9), ("[]0" * 30, 60),
+    ("[" + "b" * 58 + "]3", 60),
+]]
+
 # For each kind: what can be handed in, then what can't, each with its refusal and that one's value.
 GOOD = {
     "plan": PLAN,
@@ -106,6 +135,10 @@ GOOD = {
     "triple": (1, 1, "ab"),
     "steps": "ab--a",
     "count": 5,
+    "number": 42,
+    "sign": "b",
+    "pairs": [("", "ab"), ("b", "bab"), ("", "ab")],
+    "text": "a[b-]10",
 }
 BAD = {
     "plan": [(plan, BadPlan, "part", part) for plan, part in BAD_PLANS],
@@ -114,4 +147,8 @@ BAD = {
     "triple": [(triple, BadTriple, None, None) for triple in BAD_TRIPLES],
     "steps": [(steps, BadSteps, None, None) for steps in BAD_STEPS],
     "count": [(count, BadCount, None, None) for count in BAD_COUNTS],
+    "number": [(number, BadCount, None, None) for number in BAD_NUMBERS],
+    "sign": [(sign, BadSign, None, None) for sign in BAD_SIGNS],
+    "pairs": [(pairs, BadPair, "number", number) for pairs, number in BAD_PAIRS],
+    "text": BAD_TEXTS,
 }
